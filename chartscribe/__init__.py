@@ -1,0 +1,1 @@
+"""Chartscribe: pictures of numbers on a sheet of signs."""
