@@ -27,6 +27,14 @@ def fraction(top, bottom):
     return (top // shared, bottom // shared)
 
 
+def is_fraction(thing):
+    """Whether a thing is a fraction: a tuple such as fraction tells."""
+    if not isinstance(thing, tuple) or len(thing) != 2:
+        return False
+    top, bottom = thing
+    return is_whole(top) and is_whole(bottom) and bottom > 0 and fraction(top, bottom) == thing
+
+
 def plus(one, other):
     """The sum of two fractions."""
     return fraction(one[0] * other[1] + other[0] * one[1], one[1] * other[1])

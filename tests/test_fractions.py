@@ -5,7 +5,7 @@ import unittest
 from fractions import Fraction
 
 from chartscribe.errors import NoFraction
-from chartscribe.fractions import floor_of, fraction, is_less, less, nearest, over, plus, times
+from chartscribe.fractions import floor_of, fraction, is_fraction, is_less, less, nearest, over, plus, times
 
 THIRTY = 123456789012345678901234567890
 MOST = 10 ** 30 - 1
@@ -79,6 +79,20 @@ class TestFraction(FractionCase):
                     fraction(wrong, 2)
                 with self.assertRaises(NoFraction):
                     fraction(2, wrong)
+
+
+class TestIsFraction(unittest.TestCase):
+    def test_fractions(self):
+        for one in SOME:
+            self.assertIs(is_fraction(one), True)
+        self.assertIs(is_fraction((10 ** 5000, 10 ** 5000 + 1)), True)
+
+    def test_other_things(self):
+        for thing in [None, 1, "12", True, [1, 2], (), (1,), (1, 2, 3), (2, 4), (0, 2), (1, 0), (0, 0), (1, -2),
+                      (-1, -2), (True, 1), (0, True), (False, 1), (1.0, 1), (1, 1.0), ("1", "2"), (None, 1),
+                      (MOST, MOST)]:
+            with self.subTest(thing):
+                self.assertIs(is_fraction(thing), False)
 
 
 class TestReckoned(FractionCase):

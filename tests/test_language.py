@@ -124,6 +124,39 @@ class TestLanguage(unittest.TestCase):
                 if isinstance(node.func, ast.Attribute):
                     self.assertIn(node.func.attr, own | METHODS)
 
+    def test_is_stands_beside_none_true_and_false_only(self):
+        for file in self.each_file():
+            for node in nodes_of(file, ast.Compare):
+                for sign, other in zip(node.ops, node.comparators):
+                    if isinstance(sign, (ast.Is, ast.IsNot)):
+                        self.assertIsInstance(other, ast.Constant)
+                        self.assertIn(other.value, (None, True, False))
+
+    def test_no_files_import_from_each_other(self):
+        ahead = {}
+        for file in FILES:
+            ahead[file.stem] = {node.module.partition(".")[2] for node in nodes_of(file, ast.ImportFrom)}
+        while ahead:
+            free = [name for name in ahead if not ahead[name] & set(ahead)]
+            self.assertNotEqual(free, [], f"a circle among {sorted(ahead)}")
+            for name in free:
+                del ahead[name]
+
+    def test_no_name_is_bound_twice_at_module_level(self):
+        for file in self.each_file():
+            names = []
+            for node in tree_of(file).body:
+                names += [alias.name for alias in node.names] if isinstance(node, ast.ImportFrom) else []
+                names += [node.name] if hasattr(node, "name") else []
+                names += [target.id for target in node.targets] if isinstance(node, ast.Assign) else []
+            self.assertEqual(len(set(names)), len(names))
+
+    def test_no_name_is_a_method_and_an_attribute(self):
+        own = set().union(*[methods_of(file) for file in FILES])
+        for file in self.each_file():
+            stored = {node.attr for node in nodes_of(file, ast.Attribute) if isinstance(node.ctx, ast.Store)}
+            self.assertEqual(stored & own, set())
+
 
 if __name__ == "__main__":
     unittest.main()
