@@ -54,3 +54,12 @@ def show_number(one):
     sign = "-" if one[0] < 0 else ""
     point = "." if behind else ""
     return f"{sign}{ahead}{point}{behind}"
+
+
+def is_written(one):
+    """Whether a fraction is written as a number."""
+    try:
+        show_number(one)
+    except NoNumber:
+        return False
+    return True

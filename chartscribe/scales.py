@@ -27,3 +27,8 @@ class Scale:
         """The tuple (from, to) of which the numbers from the first on, below the second have this level."""
         # Halfway between two levels a number has the greater one.
         return (self.at_levels(fraction(2 * level - 1, 2)), self.at_levels(fraction(2 * level + 1, 2)))
+
+
+def scale_over(marks, rows):
+    """The scale from the first of the marks to the last one."""
+    return Scale(marks[0], marks[-1], rows)
