@@ -43,6 +43,14 @@ def read_number(text):
     return fraction(int(ahead + behind.ljust(MOST_BEHIND, "0")), UNIT)
 
 
+def read_whole(text):
+    """The whole number that a text writes."""
+    top, bottom = read_number(text)
+    if bottom != 1:
+        raise NoNumber("no whole number is written so")
+    return top
+
+
 def show_number(one):
     """The text that writes a fraction."""
     units, rest = divmod(abs(one[0]) * UNIT, one[1])

@@ -5,7 +5,7 @@ from chartscribe.fractions import less, over
 from chartscribe.marks import is_round
 from chartscribe.numbers import is_written
 from chartscribe.placing import next_free, placed
-from chartscribe.tables import MOST_ROWS, are_series, is_name
+from chartscribe.tables import MOST_ROWS, are_series, is_name, row_names
 
 # The kinds whose bands have a lane for each of the series.
 SIDE_BY_SIDE = ("bars", "lines")
@@ -22,14 +22,9 @@ def starts_of(kind, width, bands, series):
     return [at * (band_width + 1) for at in range(bands)]
 
 
-def row_names(drawing):
-    """The names of a drawing's rows."""
-    return [name for name, numbers in drawing.table[1]]
-
-
 def placed_names(drawing):
     """The names of a drawing's rows, None for those that find no room."""
-    names = row_names(drawing)
+    names = row_names(drawing.table)
     starts = starts_of(drawing.kind(), drawing.width, len(names), len(drawing.table[0]))
     return placed(names, starts)
 
@@ -44,7 +39,7 @@ def plan_of(drawing):
 def left_out(drawing):
     """The names that find no room, in the order of the rows."""
     kept = placed_names(drawing)
-    return [name for name in row_names(drawing) if name not in kept]
+    return [name for name in row_names(drawing.table) if name not in kept]
 
 
 def are_multiples(marks):

@@ -53,3 +53,8 @@ def table_of(series, rows):
         ahead.append(name)
         kept.append((name, tuple(numbers)))
     return (tuple(series), tuple(kept))
+
+
+def row_names(table):
+    """The names of a table's rows."""
+    return [name for name, numbers in table[1]]

@@ -48,6 +48,9 @@ UNWRITTEN_TEXTS = [
     "\u0661", "1\u0662", "\u00b2", "1.\u0665", "\u22121", "\uff11",
 ]
 
+# Each other sign behind a figure.
+UNWRITTEN_TEXTS += ["1" + chr(number) for number in range(128) if chr(number) not in "0123456789"]
+
 NO_TEXTS = [None, 0, 1, -5, 10 ** 30, True, False, [], ["1"], (), ("1",), (1, 2), {}, {"1": "1"}, b"1", 1.5]
 
 
